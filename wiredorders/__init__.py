@@ -1,0 +1,1 @@
+"""Wiredorders: orders of things, and all that is one with them."""
