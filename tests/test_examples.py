@@ -9,7 +9,9 @@ FOLDER = pathlib.Path(__file__).parent / "examples"
 
 NAMES = (
     "orders", "overtakings", "codes", "rings", "blocks", "leastrows", "rowmoves", "rowlots", "rowsteps",
-    "drawings", "crossings", "fields", "triples", "paths", "roads",
+    "drawings", "crossings", "fields", "triples", "paths", "roads", "layings", "sixes", "tilings", "shapes", "numbered",
+    "inserted", "rowtables", "lots", "slides", "weakly", "weakways", "strongly", "strongways", "strongsums", "pipes",
+    "ladders",
 )
 
 

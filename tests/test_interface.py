@@ -34,6 +34,36 @@ INTERFACE = {
     "paths": """count_edges(drawing,height) paths(drawing) count_paths(drawing) with_path(drawing,path)
         path_parted(drawing)""",
     "roads": """road_of(order) is_road(value) order_of_road(value) squares_on(order) squares_under(order)""",
+    "layings": """laying_of_row(many,row) is_laying(order,value) layings(order) count_layings(order)
+        first_row_of(order,laying) count_rows_of(order,laying) comes_behind(order,laying,square,other)""",
+    "sixes": """sixes(order,laying) six_turned(order,laying,six) high_triples(order,laying) laying_high(order,triples)
+        turns_between(order,laying,other)""",
+    "tilings": """points_of(order,laying) count_roads(order,laying) orders_within(order,laying)
+        laying_mirrored(order,laying)""",
+    "shapes": """is_shape(value) shape_turned(shape) hook_at(shape,cell) shapes_above(shape) shapes_with(size)
+        count_shapes(size) stair(many)""",
+    "numbered": """is_rising(value) is_numbered(value) table_turned(table) table_falls(table) count_numbered(shape)
+        numbered_tables(shape) table_number(table) numbered_with(shape,number) count_by_falls(shape)""",
+    "inserted": """put_thing(table,thing) tables_of(order) order_of(left,right) orders_with_left(left)""",
+    "rowtables": """tables_of_row(many,row) is_left(many,value) order_with_left(many,left) row_of(many,left,right)
+        left_tables(order) stair_row(many,table) row_on(many,row)""",
+    "lots": """are_rising(order,value) are_falling(order,value) most_rising(order,lots) most_falling(order,lots)
+        rising_lots(order,lots) longest_rising(order) count_longest(order)""",
+    "slides": """led_table(table) led_back(table) table_over(table) rest_of(table,number) steps_round(table)""",
+    "weakly": """is_weakly_below(one,other) weak_paper(one,other) weak_meet(one,other) weak_join(one,other)
+        weak_steps(order)""",
+    "weakways": """weak_way(one,other) weakly_between(one,other) count_weak_ways(one,other) count_weakly_below(order)
+        weak_signed(one,other)""",
+    "strongly": """is_strongly_below(one,other) strong_paper(one,other) strong_steps(order) strong_drops(order)
+        part_of_row(one,row)""",
+    "strongways": """strong_way(one,other) strongly_between(one,other) count_strong_ways(one,other)
+        least_above(one,other) strong_signed(one,other)""",
+    "strongsums": """is_smooth(order) sizes_below(order) step_polynomial(one,other)""",
+    "pipes": """are_pipes(many,value) pipes_row(many,pipes) pipes_order(many,pipes) pipe_tiles(many,pipes)
+        pipes_crossed(many,pipes,one_row,other_row) all_pipes(order) count_pipes(order) low_pipes(order)
+        high_pipes(order)""",
+    "ladders": """ladders(many,pipes) climbed(many,pipes,ladder) ladders_down(many,pipes)
+        climbed_down(many,pipes,ladder) ladder_way(many,pipes)""",
 }
 
 

@@ -8,15 +8,28 @@ from wiredorders.blocks import side_by_side
 from wiredorders.codes import orders
 from wiredorders.drawings import count_rows_drawn, drawn, rows_drawn
 from wiredorders.fields import least_drawings, turnings_to
+from wiredorders.inserted import orders_with_left
+from wiredorders.layings import comes_behind, count_layings, count_rows_of, first_row_of, layings
 from wiredorders.leastrows import count_rows, row_number_of, row_with, rows_of
+from wiredorders.numbered import count_by_falls, count_numbered, numbered_tables
 from wiredorders.orders import last_order, plain_order
 from wiredorders.overtakings import some_row
 from wiredorders.paths import paths, with_path
+from wiredorders.pipes import all_pipes, count_pipes, high_pipes, low_pipes
 from wiredorders.rowlots import count_lots, lot_forms, lot_size
 from wiredorders.rowmoves import fewest_moves, fewest_near, move_way
+from wiredorders.rowtables import left_tables
+from wiredorders.shapes import shapes_above
+from wiredorders.sixes import sixes, turns_between
+from wiredorders.slides import steps_round
+from wiredorders.strongsums import is_smooth, sizes_below, step_polynomial
+from wiredorders.strongways import count_strong_ways, least_above, strong_signed, strong_way, strongly_between
+from wiredorders.tilings import count_roads, laying_mirrored, orders_within, points_of
 from wiredorders.triples import drawing_late, is_triple_bar, triple_bar
+from wiredorders.weakways import count_weak_ways, count_weakly_below, weak_signed, weak_way, weakly_between
 
 CLIMB = tuple(range(11))
+FROM_PLAIN = {many: (plain_order(many), last_order(many)) for many in range(1, 31)}
 
 # A function, arguments at the limit, arguments one beyond it, and the limit.
 TABLE = (
@@ -47,6 +60,38 @@ TABLE = (
     (with_path, ((11, ()), (0,) * 11), ((12, ()), (0,) * 12), 12),
     (with_path, (drawn(2, (0,) * 198), (7, 7)), (drawn(2, (0,) * 199), (7, 7)), 200),
     (with_path, ((11, ()), (0,) * 11), (drawn(12, (0,) * 200), (0,) * 12), 12),
+    (layings, (last_order(5),), (plain_order(6),), 5),
+    (count_layings, (last_order(6),), (plain_order(7),), 6),
+    (count_rows_of, (plain_order(7), ()), (plain_order(8), ()), 7),
+    (turns_between, (plain_order(5), (), ()), (plain_order(6), (), ()), 5),
+    (count_roads, (plain_order(7), ()), (plain_order(8), ()), 7),
+    (orders_within, (plain_order(6), ()), (plain_order(7), ()), 6),
+    (shapes_above, ((449,),), ((450,),), 450),
+    (shapes_above, ((1,) * 449,), ((30,) * 15,), 450),
+    (numbered_tables, ((4, 3, 2),), ((4, 3, 3),), 9),
+    (numbered_tables, ((1,) * 9,), ((450,),), 9),
+    (count_by_falls, ((6, 5, 4, 3, 2),), ((6, 6, 4, 3, 2),), 20),
+    (count_by_falls, ((),), ((1,) * 450,), 20),
+    (orders_with_left, ((tuple(range(8)),),), ((tuple(range(9)),),), 8),
+    (orders_with_left, (((0,),),), ((tuple(range(31)),),), 8),
+    (left_tables, (last_order(6),), (plain_order(7),), 6),
+    (steps_round, ((tuple(range(11)), (11,)),), ((tuple(range(13)),),), 12),
+    (steps_round, (((0, 1, 2, 3, 4), (5, 6, 7, 8), (9, 10), (11,)),), ((tuple(range(450)),),), 12),
+    (weakly_between, FROM_PLAIN[6], FROM_PLAIN[7], 6),
+    (weakly_between, FROM_PLAIN[1], FROM_PLAIN[7][::-1], 6),
+    (count_weak_ways, FROM_PLAIN[6], FROM_PLAIN[7], 6),
+    (count_weak_ways, FROM_PLAIN[6][::-1], FROM_PLAIN[30][::-1], 6),
+    (count_weakly_below, (last_order(12),), (plain_order(13),), 12),
+    (strongly_between, FROM_PLAIN[6], FROM_PLAIN[7], 6),
+    (strongly_between, FROM_PLAIN[1], FROM_PLAIN[7][::-1], 6),
+    (count_strong_ways, FROM_PLAIN[6], FROM_PLAIN[7], 6),
+    (count_strong_ways, FROM_PLAIN[6][::-1], FROM_PLAIN[30][::-1], 6),
+    (least_above, FROM_PLAIN[6], FROM_PLAIN[7], 6),
+    (sizes_below, (last_order(6),), (plain_order(7),), 6),
+    (step_polynomial, FROM_PLAIN[6], FROM_PLAIN[7], 6),
+    (step_polynomial, FROM_PLAIN[6][::-1], FROM_PLAIN[7][::-1], 6),
+    (all_pipes, ((0, 1, 4, 3, 2, 5),), (plain_order(7),), 6),
+    (count_pipes, ((0, 1, 5, 8, 7, 6, 4, 3, 2),), (plain_order(10),), 9),
 )
 
 # Calls that are beyond a limit, and wrong besides.
@@ -66,6 +111,17 @@ BESIDES = (
     (errors.InvalidTriples, drawing_late, (plain_order(13), ((0, 1, 2),))),
     (errors.InvalidPath, with_path, ((12, ()), (0,) * 11)),
     (errors.InvalidPath, with_path, (drawn(2, (0,) * 199), (7, 8))),
+    (errors.InvalidLaying, count_rows_of, (last_order(8), ())),
+    (errors.InvalidLaying, turns_between, (plain_order(6), (), None)),
+    (errors.InvalidLaying, count_roads, (last_order(30), ())),
+    (errors.InvalidLaying, orders_within, (last_order(7), ())),
+    (errors.Unlike, weakly_between, (plain_order(7), plain_order(8))),
+    (errors.Unlike, count_weak_ways, (plain_order(7), plain_order(6))),
+    (errors.Unlike, strongly_between, (plain_order(7), plain_order(6))),
+    (errors.Unlike, count_strong_ways, (plain_order(6), plain_order(7))),
+    (errors.Unlike, least_above, (plain_order(30), plain_order(7))),
+    (errors.Unlike, step_polynomial, (plain_order(30), plain_order(7))),
+    (errors.InvalidOrder, least_above, (plain_order(30), ())),
 )
 
 
@@ -95,3 +151,15 @@ class Limits(unittest.TestCase):
     def test_no_limit_elsewhere(self):
         self.assertIsNone(triple_bar(last_order(13), ()))
         self.assertFalse(is_triple_bar(last_order(30), (), ()))
+        self.assertEqual(first_row_of(plain_order(30), ()), ())
+        self.assertEqual(sixes(plain_order(30), ()), [])
+        self.assertEqual(len(points_of(plain_order(30), ())), 31)
+        self.assertEqual(laying_mirrored(plain_order(30), ()), ())
+        square = (tuple(range(28)), 28, 29)
+        self.assertFalse(comes_behind(plain_order(28) + (29, 28), (square,), square, square))
+        self.assertEqual(count_numbered((449, 1)), 449)
+        self.assertEqual(len(weak_way(*FROM_PLAIN[30])), 435)
+        self.assertEqual(len(strong_way(*FROM_PLAIN[30])), 436)
+        self.assertEqual((weak_signed(*FROM_PLAIN[30]), strong_signed(*FROM_PLAIN[30])), (-1, -1))
+        self.assertTrue(is_smooth(last_order(30)))
+        self.assertEqual(low_pipes(last_order(30)), high_pipes(last_order(30)))

@@ -1,10 +1,8 @@
 """Wrong inputs: each argument any value, and the first error from left to right."""
 
-import itertools
-import unittest
-
+from tests.sweeps import FREE, LEAST_ROW, MANY, ORDER, ROW, Sweep
 from tests.values import (
-    ANY, are_ints, flat, is_int, led_to, pairs_over, right_drawing, right_least_drawing, right_least_row, right_order,
+    ANY, all_orders, are_ints, flat, is_int, led_to, pairs_over, right_drawing, right_least_drawing, right_order,
     right_pairs, right_row, rises,
 )
 from wiredorders import (
@@ -15,10 +13,6 @@ from wiredorders import (
 M = (3, 0, 4, 1, 2)
 A = (3, ((0,), (1,), (0,)))
 D = (4, ((0, 2), (1,), (0, 2), (1,)))
-
-
-def all_orders(many):
-    return list(itertools.permutations(range(many)))
 
 
 def is_pair_set(many, value):
@@ -87,16 +81,11 @@ def is_road(value):
     return all(set(value[at]) < set(value[at + 1]) for at in range(len(value) - 1))
 
 
-MANY = (errors.InvalidMany, lambda args, value: is_int(value, 1, 30))
 WIRES = (errors.InvalidMany, lambda args, value: is_int(value, 1, 12))
-ORDER = (errors.InvalidOrder, lambda args, value: right_order(value))
-ROW = (errors.InvalidRow, lambda args, value: right_row(args[0], value))
 SHORT_ROW = (errors.InvalidRow, lambda args, value: right_row(args[0], value) and len(value) <= 200)
-LEAST_ROW = (errors.InvalidRow, lambda args, value: right_least_row(args[0], value))
 ORDER_ROW = (errors.InvalidRow, lambda args, value: right_row(len(args[0]), value))
 EXCHANGE = (errors.InvalidExchange, lambda args, value: is_int(value, 0, args[0] - 2))
 ORDER_EXCHANGE = (errors.InvalidExchange, lambda args, value: is_int(value, 0, len(args[0]) - 2))
-FREE = (None, lambda args, value: True)
 DRAWING = (errors.InvalidDrawing, lambda args, value: right_drawing(value))
 LEAST = (errors.InvalidDrawing, lambda args, value: right_least_drawing(value))
 CROSSING = (errors.InvalidCrossing, lambda args, value: is_crossing(args[0], value))
@@ -210,34 +199,12 @@ TABLE = [
 ]
 
 
-class Wrong(unittest.TestCase):
-    def check_error(self, error, function, args, place):
-        try:
-            function(*args)
-        except errors.OrderError as caught:
-            # The value itself is not shown: written out, some would have no end.
-            self.assertIs(caught.__class__, error, f"{function.__name__}, {place}")
-        else:
-            self.fail(f"{function.__name__}, {place}: no error")
-
-    def wrong_at(self, at, args, right):
-        return [index for index, value in enumerate(ANY) if not right(args, value)]
-
+class Wrong(Sweep):
     def test_each_argument(self):
-        for function, args, kinds in TABLE:
-            function(*args)
-            for at, (error, right) in enumerate(kinds):
-                for index in self.wrong_at(at, args, right):
-                    others = args[:at] + (ANY[index],) + args[at + 1:]
-                    self.check_error(error, function, others, f"argument {at}, value {index}")
+        self.sweep_arguments(TABLE)
 
     def test_from_left_to_right(self):
-        for function, args, kinds in TABLE:
-            for at, after in itertools.combinations(range(len(kinds)), 2):
-                wrong, also = self.wrong_at(at, args, kinds[at][1]), self.wrong_at(after, args, kinds[after][1])
-                for one, other in list(zip(wrong, also)) + [(wrong[0], also[-1])] if also else []:
-                    both = args[:at] + (ANY[one],) + args[at + 1:after] + (ANY[other],) + args[after + 1:]
-                    self.check_error(kinds[at][0], function, both, f"values {one} and {other}")
+        self.sweep_from_left(TABLE)
 
     def test_alone(self):
         self.check_error(errors.InvalidExchange, orders.swapped, ((0,), 0), "one thing")
@@ -273,12 +240,8 @@ class Wrong(unittest.TestCase):
         self.check_error(errors.InvalidDrawing, fields.turnings_to, (A, (2, ((0,), (0,)))), "behind both")
 
 
-class Told(unittest.TestCase):
+class Told(Sweep):
     """The functions that take any value for some argument, and tell whether it is right."""
-
-    def check_told(self, function, right):
-        for index, value in enumerate(ANY):
-            self.assertIs(function(value), right(value), f"value {index}")
 
     def test_orders(self):
         self.check_told(orders.is_order, right_order)
@@ -337,24 +300,18 @@ class Told(unittest.TestCase):
         self.check_told(roads.is_road, is_road)
 
 
-class Unchanged(unittest.TestCase):
+class Unchanged(Sweep):
     def test_a_list_that_is_handed_in(self):
         value = [(1, 0), (3, 2)]
         rings.order_with_rings(4, value)
         self.assertEqual(value, [(1, 0), (3, 2)])
 
     def test_returned_lists_are_new(self):
-        for function, args in (
+        self.check_new_lists((
             (overtakings.overtakings, (M,)), (overtakings.falls, (M,)), (codes.orders, (3,)), (rings.rings, (M,)),
             (blocks.gaps, ((0, 1),)), (blocks.blocks, (M,)), (leastrows.row_begins, (M,)), (leastrows.rows_of, (M,)),
             (rowlots.lot_forms, (M,)), (rowmoves.row_moves, (4, (0, 2))), (drawings.rows_drawn, (D,)),
             (crossings.crossings, (D,)), (fields.fields, (D,)), (fields.field_corners, (D, (0, 0))),
             (fields.triangles, (D,)), (fields.least_drawings, (M,)), (triples.triples_of, ((2, 1, 0),)),
             (paths.paths, (D,)), (roads.squares_on, (M,)), (roads.squares_under, (M,)),
-        ):
-            first = function(*args)
-            self.assertIs(type(first), list)
-            kept = list(first)
-            first.clear()
-            self.assertEqual(function(*args), kept)
-            self.assertNotEqual(kept, [])
+        ))

@@ -1,5 +1,8 @@
 """Any values, and plain rules, written apart from the program, of which of them are right."""
 
+import functools
+import itertools
+
 from wiredorders.errors import InvalidOrder, TooMany
 
 BIG = int("9" * 120)
@@ -36,6 +39,25 @@ ANY = [
     (0,) * 500, [0] * 500, (0, 1) * 100, ((),) * 500, ((0, 1),) * 500, (28,) * 450, (29,), (28,), (0,) * 30, (0,) * 31,
     (0, False), (False, 0), (True, True), (1, True), (False, False), [(4,)], ((4, 5),), [(3,)], [(0,), (0,)], [(0, 4)], ((5,),),
     (0, 1, 0, 1, 1), (1, 0, 1, 0, 0), (0, 0, 0, 1, 0), (0, 1, 0, 0, 0),
+    ((), 0, 1), ((), 0, 2), ((2,), 0, 1), ((0,), 1, 2), ((), 1, 2), ((1,), 0, 2), ((), 1, 0), ((0,), 0, 1), ([], 0, 1),
+    ((), False, 1), ((), 0, True), ((False,), 1, 2), ((), 0, 1, 2), ((0,), 1, 2, 3), ((), 0, 2, 1), ((), 0, 1, 3),
+    ((), False, 1, 2), ((1,), 0, 1, 2), ((2, 0), 1, 3), ((), 0), ((), 0, BIG), (((),), 0, 1), ((-1,), 0, 1), (None, 0, 1),
+    (((), 0, 1),), [((), 0, 1)], (((), 0, 2), ((0,), 1, 2)), (((0,), 1, 2), ((), 0, 2)), (((), 0, 2), ((False,), 1, 2)),
+    (((), 0, 1), ((), 1, 2), ((1,), 0, 2)), (((), 0, 2), ((0,), 1, 2), ((2,), 0, 1)), (((), 0, 2), ((0,), 1, 2), 0),
+    (((), 0, 1), ((), 0, 1)), (((), 0, 2), [(0,), 1, 2]), (((), 0, 2), ((0,), 1, 2), ((2,), 0, True)),
+    (2, 1), (3, 2, 1), (2, 2), (1, 1, 1), (3, 2, 2), (2, 3), (2, 1, 0), (450,), (451,), (1,) * 450, (1,) * 451, (2,) * 226,
+    (450, 1), (2, True), (True, True, True), (4, 3, 2, 1), (1, 2), (0, 3), (2, 0), (1, False), (False, 0), [2, 1], ((2, 1),),
+    ((0, 2), (1,)), ((0, 1), (2,)), ((0, 1), (1,)), ((0,), (1,), (2,)), ((0, 1, 2), (3,)), ((0, 1), (2, 3)), ((0, 1), ()),
+    ((0, 1), (0,)), ((0,), (1, 2)), ((1, 0), (2,)), ((0, 1), (2, True)), ((False, 1), (2,)), ((0, True), (2,)), ((0, 1), [2]),
+    [(0, 1), (2,)], ((0, 2), (1, 3)), ((0, 3), (1, 2)), ((0, 2), (2, 3)), ((10 ** 6,),), ((10 ** 6 + 1,),), ((0,), (0,)),
+    ((1,),), ((2,),), ((0, 2),), ((0,), (2,)), ((0, 1), (3,)), ((5,), (7,)), tuple((at,) for at in range(31)), (tuple(range(450)),),
+    (tuple(range(451)),), (tuple(range(30)),), ((0, 1), 2, 3), ((0, 1), "12"), ((0, 1, 2), (1, 2), (2,)), (0, 1, 2, 0, 1, 0),
+    ((0, 2), (1, 3), (4,)), ((4, 2), (3, 1)), ((2, 1), (0,)), ((2, 1, 0),), ((0, 1, 2), (3, 4)), ((0,), (0, 1)), ((0, 4),),
+    ((3, 4), (0, 1, 2)), ((3,), (2,), (1,), (0,)), ((4, True),), ((3, 0),), ((3, 1), (4, 2), (0,)), ((4, 1), (3, 0)),
+    ((0, 0), (0, 1)), ((0, 1), (0, 0)), ((0, 0), (1, 0)), ((0, 0), (0, 2)), ((0, 0), (1, 1)), ((0, 0), (2, 0)), ((1, 0), (0, 1)),
+    ((0, 0), (0, 1), (1, 0)), ((0, 0), (0, 1), (0, 2), (2, 0), (2, 1)), ((0, 0), (0, 0)), ((0, 0), (0, True)), ((True, 0), (0, 1)),
+    [(0, 0)], ([0, 0],), ((0, 0, 0),), ((0, 0), 1), ((0, 29),), ((29, 0),), ((28, 0),), ((0, 28),), ((14, 14),), ((-1, 1),),
+    [(1, 0), (0, 1)], ([1, 0], (0, 1)), ((1, 0), (0, 1), (0, 0)), ((1, False), (0, 1)), ((1, 0), (0, True)), ((2, 0), (1, 1)),
     nested(30, (), 1), nested(30, 0, 2), nested(30, None, 500), [nested(29, "x", 3)], (0, nested(29, 0, 2)),
     nested(2, 0, 500), (3, nested(29, 0, 2)), (nested(29, 0, 2), 0), ("far", nested(29, 0, 2)), (nested(28, 0, 2),) * 3,
     InvalidOrder("no"), TooMany(5), (InvalidOrder("no"), 0), (0, TooMany(1)), [InvalidOrder("no")],
@@ -112,3 +134,133 @@ def flat(drawing):
 
 def right_least_drawing(value):
     return right_drawing(value) and least(value[0], flat(value))
+
+
+def is_plain(value, depth):
+    """Tell whether any value is an integer, or a tuple of integers and tuples, nested at most so deep."""
+    if type(value) is int:
+        return True
+    return type(value) is tuple and depth > 0 and all(is_plain(item, depth - 1) for item in value)
+
+
+def is_among(value, depth, told):
+    """Tell whether any value is one of these, True and False being no integers."""
+    return is_plain(value, depth) and value in told
+
+
+def all_orders(many):
+    return list(itertools.permutations(range(many)))
+
+
+@functools.lru_cache(None)
+def all_rows(order):
+    """Return the tuple of all least rows of an order, from their ends on."""
+    rows = []
+    for at in range(len(order) - 1):
+        if order[at] > order[at + 1]:
+            behind = order[:at] + (order[at + 1], order[at]) + order[at + 2:]
+            rows += [row + (at,) for row in all_rows(behind)]
+    return tuple(sorted(rows)) if rows else ((),)
+
+
+def laid(many, row):
+    """Return the list of the squares of a row's steps."""
+    squares = []
+    for at, exchange in enumerate(row):
+        order = led_to(many, row[:at])
+        squares.append((tuple(sorted(order[:exchange])), *sorted(order[exchange:exchange + 2])))
+    return squares
+
+
+@functools.lru_cache(None)
+def all_layings(order):
+    """Return the ascending tuple of all layings of an order."""
+    return tuple(sorted({tuple(sorted(laid(len(order), row))) for row in all_rows(order)}))
+
+
+def right_laying(order, value):
+    return is_among(value, 3, all_layings(order))
+
+
+def all_sixes(many, laying):
+    """Return the ascending list of the sixes of a laying, looked for among all points and things."""
+    found = []
+    for size in range(many - 2):
+        for base in itertools.combinations(range(many), size):
+            others = [thing for thing in range(many) if thing not in base]
+            found += [(base, *three) for three in itertools.combinations(others, 3) if has_six(laying, base, *three)]
+    return sorted(found)
+
+
+def has_six(laying, base, x, y, z):
+    low = {(base, x, y), (base, y, z), (tuple(sorted([*base, y])), x, z)}
+    high = {(base, x, z), (tuple(sorted([*base, x])), y, z), (tuple(sorted([*base, z])), x, y)}
+    return low <= set(laying) or high <= set(laying)
+
+
+def right_shape(value):
+    return are_ints(value, 1, 450) and sum(value) <= 450 and list(value) == sorted(value, reverse=True)
+
+
+def right_cell(shape, value):
+    return are_ints(value, 0, 450) and value in [(line, spot) for line, long in enumerate(shape) for spot in range(long)]
+
+
+def right_rising(value):
+    if type(value) is not tuple or not all(are_ints(line, 0, 10 ** 6) for line in value):
+        return False
+    if not right_shape(tuple(len(line) for line in value)):
+        return False
+    columns = [[line[spot] for line in value if spot < len(line)] for spot in range(len(value[0]))] if value else []
+    return all(map(rises, value)) and all(map(rises, columns))
+
+
+def right_table(value):
+    return right_rising(value) and sorted(sum(value, ())) == list(range(len(sum(value, ()))))
+
+
+def shape_of(table):
+    return tuple(map(len, table))
+
+
+def put_in(lines, item, exchanges=False):
+    """Put a thing, or an exchange, into lists; return the cell that came."""
+    for at in range(len(lines) + 1):
+        if at == len(lines):
+            lines.append([])
+        line = lines[at]
+        greater = [other for other in line if other > item]
+        if exchanges and {item, item + 1} <= set(line):
+            item = item + 1
+        elif greater:
+            line[line.index(min(greater))], item = item, min(greater)
+        else:
+            line.append(item)
+            return (at, len(line) - 1)
+
+
+def tables_made(items, exchanges=False):
+    """Return the pair of the tables that come of things, or of exchanges."""
+    left, right = [], []
+    for number, item in enumerate(items):
+        line, _ = put_in(left, item, exchanges)
+        right = right + [[]] if line == len(right) else right
+        right[line].append(number)
+    return tuple(map(tuple, left)), tuple(map(tuple, right))
+
+
+@functools.lru_cache(None)
+def all_lefts(many):
+    """Return the dict of all left tables of so many things, each with its order."""
+    return {tables_made(row, True)[0]: order for order in all_orders(many) for row in all_rows(order)}
+
+
+def right_lots(order, value, falling=False):
+    if type(value) is not tuple or not all(are_ints(lot, 0, len(order) - 1) and lot for lot in value):
+        return False
+    every = [thing for lot in value for thing in lot]
+    if len(set(every)) != len(every):
+        return False
+    return all(
+        rises([order.index(thing) for thing in lot]) and rises(lot[::-1] if falling else lot) for lot in value
+    )

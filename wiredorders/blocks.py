@@ -17,6 +17,11 @@ def gaps_in(order):
 def blocks(order):
     """Return the list of all blocks, in order."""
     check_order(order)
+    return blocks_in(order)
+
+
+def blocks_in(order):
+    """Return the list of all blocks, in order."""
     edges = [0] + gaps_in(order) + [len(order)]
     return [block_between(order, edges[at], edges[at + 1]) for at in range(len(edges) - 1)]
 
@@ -37,6 +42,11 @@ def side_by_side(one, other):
 def counts_table(order):
     """Return, for each number of first places and each bound, how many lesser things stand there."""
     check_order(order)
+    return counts_in(order)
+
+
+def counts_in(order):
+    """Return the counts table of an order."""
     bounds = range(len(order) + 1)
     counts = [0 for _ in bounds]
     table = [tuple(counts)]

@@ -1,4 +1,4 @@
-"""What the modules share: kinds of values, and ways of fewest steps."""
+"""What the modules share: kinds of values, and what steps lead to."""
 
 
 def is_integer(value):
@@ -57,3 +57,21 @@ def fewest_steps(start, aim, steps_from):
         names.append(step[1])
         step = came[step[0]]
     return names[::-1]
+
+
+def all_reached(start, led_from):
+    """Return the list of start, and of all to which steps lead from it, each once.
+
+    led_from(held) returns a list of all to which one step leads.
+    """
+    found = {start: True}
+    border = [start]
+    while border:
+        further = []
+        for held in border:
+            for reached in led_from(held):
+                if reached not in found:
+                    found[reached] = True
+                    further.append(reached)
+        border = further
+    return list(found)

@@ -90,6 +90,11 @@ def opposite_in(order):
 def led(one, other):
     """Return the one order led by the other one."""
     check_orders(one, other)
+    return led_in(one, other)
+
+
+def led_in(one, other):
+    """Return the one order led by the other one, both of as many things."""
     return tuple([one[thing] for thing in other])
 
 

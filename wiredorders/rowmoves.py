@@ -105,8 +105,12 @@ def fewest_near(many, row, other_row):
 
 def forms_beside(form):
     """Return the list of the lot forms one near move off, each also as the step's name."""
-    forms = [form_in(near_made(form, corners)) for corners in corners_in(form)]
-    return [(reached, reached) for reached in forms]
+    return [(reached, reached) for reached in near_forms(form)]
+
+
+def near_forms(form):
+    """Return the list of the lot forms to which a near move, among far ones, leads from a lot form."""
+    return [form_in(near_made(form, corners)) for corners in corners_in(form)]
 
 
 def corners_in(row):

@@ -29,13 +29,25 @@ def late_triples(least):
     return tuple([(a, b, c) for a, b, c in triples_in(order_drawn_in(least)) if steps[(b, c)] < steps[(a, b)]])
 
 
+def is_lot_in(order, value):
+    """Tell whether any value is a lot of triples of an order."""
+    if not are_groups(value, 3, len(order) - 1) or not are_ascending(value):
+        return False
+    known = {triple: True for triple in triples_in(order)}
+    return all([triple in known for triple in value])
+
+
 def check_lot(order, value):
     """Raise InvalidTriples for any value that is no lot of triples of an order."""
-    if not are_groups(value, 3, len(order) - 1) or not are_ascending(value):
-        raise InvalidTriples("not an ascending tuple of triples")
-    known = {triple: True for triple in triples_in(order)}
-    if not all([triple in known for triple in value]):
-        raise InvalidTriples("not triples of the order")
+    if not is_lot_in(order, value):
+        raise InvalidTriples("not an ascending tuple of triples of the order")
+
+
+def row_late(order, lot):
+    """Return the least row in which the late triples of an order are just those of a lot, or None."""
+    aheads = aheads_in(order, lot)
+    done = arranged(aheads)
+    return row_with_pairs(len(order), tuple(done)) if len(done) == len(aheads) else None
 
 
 def aheads_in(order, lot):
@@ -75,11 +87,8 @@ def drawing_late(order, lot):
     check_order(order)
     check_lot(order, lot)
     check_most(len(order), MOST_WIRES)
-    aheads = aheads_in(order, lot)
-    done = arranged(aheads)
-    if len(done) < len(aheads):
-        return None
-    return drawn_in(len(order), row_with_pairs(len(order), tuple(done)))
+    row = row_late(order, lot)
+    return None if row is None else drawn_in(len(order), row)
 
 
 def triple_bar(order, lot):
