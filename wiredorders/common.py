@@ -1,4 +1,4 @@
-"""What the modules share: kinds of values, and what steps lead to."""
+"""What the modules share: kinds of values, what steps lead to, and how many successions there are."""
 
 
 def is_integer(value):
@@ -75,3 +75,21 @@ def all_reached(start, led_from):
                     further.append(reached)
         border = further
     return list(found)
+
+
+def count_successions(needed):
+    """Return in how many successions items can come, each behind all that it needs.
+
+    What an item needs is told as bits, one for the index of each other item;
+    so is, while counting, which items are there.
+    """
+    ways = {0: 1}
+    for _ in needed:
+        longer = {}
+        for there in ways:
+            for at, bits in enumerate(needed):
+                bit = 1 << at
+                if there & bit == 0 and there & bits == bits:
+                    longer[there | bit] = longer.get(there | bit, 0) + ways[there]
+        ways = longer
+    return sum(list(ways.values()))

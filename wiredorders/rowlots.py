@@ -1,5 +1,6 @@
 """Lots of rows: all that far moves lead to, and what tells lots from one another."""
 
+from wiredorders.common import count_successions
 from wiredorders.leastrows import rows_in
 from wiredorders.orders import check_many, check_most, check_order, check_row
 
@@ -54,18 +55,8 @@ def lot_size(many, row):
 
 
 def size_in(row):
-    """Return how many rows the lot of a row has, counted by which items are done, as bits."""
-    ahead = items_ahead(row)
-    ways = {0: 1}
-    for _ in row:
-        longer = {}
-        for done in ways:
-            for at, needed in enumerate(ahead):
-                bit = 1 << at
-                if done & bit == 0 and done & needed == needed:
-                    longer[done | bit] = longer.get(done | bit, 0) + ways[done]
-        ways = longer
-    return sum(list(ways.values()))
+    """Return how many rows the lot of a row has."""
+    return count_successions(items_ahead(row))
 
 
 def items_ahead(row):

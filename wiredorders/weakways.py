@@ -1,7 +1,7 @@
 """Ways of weak steps up from order to order, and what lies between."""
 
 from wiredorders.blocks import blocks_in
-from wiredorders.common import all_reached
+from wiredorders.common import all_reached, count_successions
 from wiredorders.leastrows import count_in
 from wiredorders.orders import check_most, check_order, check_orders, led_in, opposite_in, order_after
 from wiredorders.overtakings import falls_in, overtakings_in
@@ -53,27 +53,19 @@ def count_weak_ways(one, other):
 def count_weakly_below(order):
     """Return how many orders are weakly below an order.
 
-    Those are put together from the first place on; a thing can come once all
-    lesser things are there that stand ahead of it in the order. The things
-    that are there are noted as bits.
+    In those, a thing stands behind all lesser ones that stand ahead of it in
+    the order.
     """
     check_order(order)
     check_most(len(order), MOST_BELOW)
-    needed = {thing: 0 for thing in order}
+    needed = []
     for place, thing in enumerate(order):
-        for ahead in order[:place]:
-            if ahead < thing:
-                needed[thing] = needed[thing] | (1 << ahead)
-    ways = {0: 1}
-    for _ in order:
-        longer = {}
-        for there in ways:
-            for thing in order:
-                if there & (1 << thing) == 0 and there & needed[thing] == needed[thing]:
-                    more = there | (1 << thing)
-                    longer[more] = longer.get(more, 0) + ways[there]
-        ways = longer
-    return sum(list(ways.values()))
+        bits = 0
+        for ahead in range(place):
+            if order[ahead] < thing:
+                bits = bits | (1 << ahead)
+        needed.append(bits)
+    return count_successions(needed)
 
 
 def weak_signed(one, other):
