@@ -11,7 +11,7 @@ NAMES = (
     "orders", "overtakings", "codes", "rings", "blocks", "leastrows", "rowmoves", "rowlots", "rowsteps",
     "drawings", "crossings", "fields", "triples", "paths", "roads", "layings", "sixes", "tilings", "shapes", "numbered",
     "inserted", "rowtables", "lots", "slides", "weakly", "weakways", "strongly", "strongways", "strongsums", "pipes",
-    "ladders",
+    "ladders", "pipesums", "climbs", "pipeproducts", "vexing", "nets", "nearnets", "stacks", "countwords",
 )
 
 
@@ -22,6 +22,7 @@ def meant():
         known.update(vars(importlib.import_module(f"wiredorders.{name}")))
     known.update({
         "V": (1, 0, 3, 2), "W": (2, 0, 1), "Z": (3, 2, 1, 0), "M": (3, 0, 4, 1, 2),
+        "X": ((0, 1), (2, 3), (0, 2), (1, 3), (1, 2)), "Y": ((0, 1), (1, 2), (0, 1)),
         "A": (3, ((0,), (1,), (0,))), "B": (3, ((1,), (0,), (1,))), "D": (4, ((0, 2), (1,), (0, 2), (1,))),
     })
     return known

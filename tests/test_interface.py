@@ -64,6 +64,23 @@ INTERFACE = {
         high_pipes(order)""",
     "ladders": """ladders(many,pipes) climbed(many,pipes,ladder) ladders_down(many,pipes)
         climbed_down(many,pipes,ladder) ladder_way(many,pipes)""",
+    "pipesums": """is_pipe_sum(many,value) order_sum(order) sums_added(many,one_sum,other_sum)
+        sums_multiplied(many,one_sum,other_sum) stepped_down(many,one_sum,exchange) sum_at(many,one_sum,values)""",
+    "climbs": """is_climb(many,row,value) climbs(many,row) count_climbs(many,row) pipes_by(many,row,climb)
+        climb_of(many,pipes)""",
+    "pipeproducts": """orders_up(order,place) fall_step(order) in_orders(many,one_sum)""",
+    "vexing": """is_vexing(order) has_one(order) vexing_shape(order) vexing_flags(order) vexing_count(order)""",
+    "nets": """is_net(many,value) sorted_by(order,net) marks_by(many,net,marks) layers_of(many,net) is_sorter(many,net)
+        unsorted_marks(many,net) first_unsorted(many,net) idle_comparers(many,net) without_idle(many,net)
+        first_parted(many,one_net,other_net)""",
+    "nearnets": """is_near(many,value) near_net(many,row) kept_row(many,row) near_more(many,net) near_rest(many,net)
+        fewest_more(many,net) more_for(many,net)""",
+    "stacks": """stack_moves(order) stack_bar(order) is_stack_bar(order,value) stack_pass(order) stack_passes(order)
+        bubble_pass(order) bubble_passes(order) lines_needed(order) lines_way(order) falling_places(order)
+        stacks_needed(order) stacks_way(order,number) is_stacks_way(order,value) is_lines_way(order,value)
+        count_stacked(many) count_lined(many,number) count_bubbled(many,number)""",
+    "countwords": """word_number(word,order) spread(word,many) signed_spread(word,many)
+        both_spread(one_word,other_word,many)""",
 }
 
 

@@ -94,7 +94,19 @@ class Language(unittest.TestCase):
                     self.assertIs(node, tree.body[0], path.name)
                     self.assertIsInstance(node.value, ast.Constant)
                 if isinstance(node, ast.Assign):
-                    ast.literal_eval(node.value)
+                    self.check_plain(path, tree, node)
+
+    def check_plain(self, path, tree, node):
+        """A plain value, or a dict of functions that are defined above it."""
+        self.assertEqual(len(node.targets), 1)
+        if isinstance(node.value, ast.Dict) and any(isinstance(each, ast.Name) for each in node.value.values):
+            above = {other.name for other in tree.body[:tree.body.index(node)] if isinstance(other, ast.FunctionDef)}
+            for each in node.value.values:
+                self.assertIn(each.id, above, path.name)
+            for each in node.value.keys:
+                ast.literal_eval(each)
+        else:
+            ast.literal_eval(node.value)
 
     def test_nodes(self):
         for path, tree in trees():

@@ -5,23 +5,32 @@ import unittest
 from tests.values import BIG
 from wiredorders import errors
 from wiredorders.blocks import side_by_side
+from wiredorders.climbs import climbs, count_climbs
 from wiredorders.codes import orders
+from wiredorders.countwords import both_spread, signed_spread, spread
 from wiredorders.drawings import count_rows_drawn, drawn, rows_drawn
 from wiredorders.fields import least_drawings, turnings_to
 from wiredorders.inserted import orders_with_left
 from wiredorders.layings import comes_behind, count_layings, count_rows_of, first_row_of, layings
 from wiredorders.leastrows import count_rows, row_number_of, row_with, rows_of
+from wiredorders.nearnets import fewest_more, kept_row, more_for, near_more, near_net, near_rest
+from wiredorders.nets import (
+    first_parted, first_unsorted, idle_comparers, is_sorter, layers_of, unsorted_marks, without_idle,
+)
 from wiredorders.numbered import count_by_falls, count_numbered, numbered_tables
 from wiredorders.orders import last_order, plain_order
 from wiredorders.overtakings import some_row
 from wiredorders.paths import paths, with_path
+from wiredorders.pipeproducts import fall_step, in_orders, orders_up
 from wiredorders.pipes import all_pipes, count_pipes, high_pipes, low_pipes
+from wiredorders.pipesums import order_sum
 from wiredorders.rowlots import count_lots, lot_forms, lot_size
 from wiredorders.rowmoves import fewest_moves, fewest_near, move_way
 from wiredorders.rowtables import left_tables
 from wiredorders.shapes import shapes_above
 from wiredorders.sixes import sixes, turns_between
 from wiredorders.slides import steps_round
+from wiredorders.stacks import bubble_passes, is_lines_way, is_stacks_way, stack_passes, stacks_needed, stacks_way
 from wiredorders.strongsums import is_smooth, sizes_below, step_polynomial
 from wiredorders.strongways import count_strong_ways, least_above, strong_signed, strong_way, strongly_between
 from wiredorders.tilings import count_roads, laying_mirrored, orders_within, points_of
@@ -92,6 +101,27 @@ TABLE = (
     (step_polynomial, FROM_PLAIN[6][::-1], FROM_PLAIN[7][::-1], 6),
     (all_pipes, ((0, 1, 4, 3, 2, 5),), (plain_order(7),), 6),
     (count_pipes, ((0, 1, 5, 8, 7, 6, 4, 3, 2),), (plain_order(10),), 9),
+    (order_sum, ((0, 1, 6, 5, 4, 3, 2),), (plain_order(8),), 7),
+    (climbs, (30, CLIMB[:10]), (30, CLIMB), 10),
+    (climbs, (30, (28, 26, 24, 22)), (30, CLIMB[::-1]), 10),
+    (orders_up, (plain_order(29), 28), (plain_order(30), 0), 30),
+    (orders_up, (last_order(29), 0), (last_order(30), 29), 30),
+    (in_orders, (7, ()), (8, ()), 7),
+    (in_orders, (7, (((6, 5, 4, 3, 2, 1, 0), 1),)), (30, (((0,) * 30, 1),)), 7),
+    (is_sorter, (10, ((0, 9),) * 120), (11, ()), 10),
+    (unsorted_marks, (10, ((0, 9),) * 120), (11, ()), 10),
+    (first_unsorted, (10, ((0, 9),) * 120), (30, ()), 10),
+    (idle_comparers, (10, ((0, 9),) * 120), (11, ((0, 1),)), 10),
+    (without_idle, (10, ((0, 9),) * 120), (11, ((0, 1),)), 10),
+    (first_parted, (10, ((0, 9),) * 120, ()), (11, (), ()), 10),
+    (near_net, (30, (28,) * 120), (30, (28,) * 121), 120),
+    (near_net, (1, ()), (2, (0,) * 450), 120),
+    (fewest_more, (4, ((0, 3),) * 120), (5, ()), 4),
+    (more_for, (4, ()), (5, ((0, 3),) * 120), 4),
+    (stacks_needed, ((8, 6, 7, 4, 5, 2, 3, 0, 1),), (plain_order(10),), 9),
+    (stacks_way, (plain_order(9), 9), (plain_order(10), 1), 9),
+    (is_stacks_way, (plain_order(9), None), (plain_order(10), None), 9),
+    (both_spread, ("size", "weight", 6), ("size", "weight", 7), 6),
 )
 
 # Calls that are beyond a limit, and wrong besides.
@@ -122,6 +152,24 @@ BESIDES = (
     (errors.Unlike, least_above, (plain_order(30), plain_order(7))),
     (errors.Unlike, step_polynomial, (plain_order(30), plain_order(7))),
     (errors.InvalidOrder, least_above, (plain_order(30), ())),
+    (errors.InvalidRow, climbs, (30, (0,) * 11)),
+    (errors.InvalidPlace, orders_up, (plain_order(30), 30)),
+    (errors.InvalidSum, in_orders, (8, None)),
+    (errors.InvalidSum, in_orders, (8, (((8,) + (0,) * 7, 1),))),
+    (errors.InvalidNet, is_sorter, (11, None)),
+    (errors.InvalidNet, unsorted_marks, (11, ((0, 11),))),
+    (errors.InvalidNet, first_unsorted, (11, ((1, 0),))),
+    (errors.InvalidNet, idle_comparers, (11, ((0, 1),) * 121)),
+    (errors.InvalidNet, without_idle, (30, [])),
+    (errors.InvalidNet, first_parted, (11, (), None)),
+    (errors.InvalidRow, near_net, (30, (29,) * 121)),
+    (errors.InvalidRow, near_net, (30, (0,) * 451)),
+    (errors.InvalidNet, fewest_more, (5, None)),
+    (errors.InvalidNet, more_for, (30, ((0, 30),))),
+    (errors.InvalidNumber, stacks_way, (plain_order(10), 0)),
+    (errors.InvalidNumber, stacks_way, (plain_order(30), 10)),
+    (errors.InvalidWord, both_spread, ("size", "none", 7)),
+    (errors.InvalidMany, both_spread, ("size", "size", 31)),
 )
 
 
@@ -163,3 +211,11 @@ class Limits(unittest.TestCase):
         self.assertEqual((weak_signed(*FROM_PLAIN[30]), strong_signed(*FROM_PLAIN[30])), (-1, -1))
         self.assertTrue(is_smooth(last_order(30)))
         self.assertEqual(low_pipes(last_order(30)), high_pipes(last_order(30)))
+        self.assertEqual(count_climbs(30, CLIMB[::-1]), 1)
+        self.assertEqual(fall_step(plain_order(28) + (29, 28))[0], 28)
+        self.assertEqual(len(layers_of(30, ((0, 1), (1, 2)) * 60)), 120)
+        self.assertEqual((near_more(30, ()), len(near_rest(30, ()))), (435, 435))
+        self.assertEqual(kept_row(30, (28,) * 450), (28,))
+        self.assertEqual((stack_passes(last_order(30)), bubble_passes(last_order(30))), (1, 29))
+        self.assertFalse(is_lines_way(last_order(30), None))
+        self.assertEqual((len(spread("size", 30)), len(signed_spread("size", 30))), (436, 436))

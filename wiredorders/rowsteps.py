@@ -2,7 +2,7 @@
 
 from wiredorders.common import are_ascending, are_within, is_group
 from wiredorders.errors import InvalidPairs
-from wiredorders.orders import check_exchange, check_many, check_order, check_row, order_in
+from wiredorders.orders import check_exchange, check_many, check_order, check_row, order_after, order_in
 from wiredorders.overtakings import is_least_in
 from wiredorders.rowmoves import check_least_row
 
@@ -109,8 +109,15 @@ def pushed_order(order, row):
     """Return an order led by those exchanges alone that make an overtaking more."""
     check_order(order)
     check_row(len(order), row)
+    return order_after(order, pushed_in(order, row))
+
+
+def pushed_in(order, row):
+    """Return the tuple of those exchanges of a row that make an overtaking more, one after another."""
     things = list(order)
+    kept = []
     for exchange in row:
         if things[exchange] < things[exchange + 1]:
             things[exchange], things[exchange + 1] = things[exchange + 1], things[exchange]
-    return tuple(things)
+            kept.append(exchange)
+    return tuple(kept)
