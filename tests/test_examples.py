@@ -12,6 +12,7 @@ NAMES = (
     "drawings", "crossings", "fields", "triples", "paths", "roads", "layings", "sixes", "tilings", "shapes", "numbered",
     "inserted", "rowtables", "lots", "slides", "weakly", "weakways", "strongly", "strongways", "strongsums", "pipes",
     "ladders", "pipesums", "climbs", "pipeproducts", "vexing", "nets", "nearnets", "stacks", "countwords",
+    "countcarried", "patterns", "bigcounts", "spans", "lifestates", "tellrows", "lifetexts", "lifevalues", "lifebenches",
 )
 
 
@@ -23,6 +24,8 @@ def meant():
     known.update({
         "V": (1, 0, 3, 2), "W": (2, 0, 1), "Z": (3, 2, 1, 0), "M": (3, 0, 4, 1, 2),
         "X": ((0, 1), (2, 3), (0, 2), (1, 3), (1, 2)), "Y": ((0, 1), (1, 2), (0, 1)),
+        "ONES": ((1, 1),) * 3, "S": (3, (0, 1, 0), ((1, 1),) * 3, 1, 0),
+        "L": (("near", 0), ("scale", 1, (2, 1)), ("drop",)),
         "A": (3, ((0,), (1,), (0,))), "B": (3, ((1,), (0,), (1,))), "D": (4, ((0, 2), (1,), (0, 2), (1,))),
     })
     return known

@@ -2,7 +2,10 @@
 
 import importlib
 import inspect
+import pathlib
 import unittest
+
+PACKAGE = pathlib.Path(__file__).parent.parent / "wiredorders"
 
 INTERFACE = {
     "orders": """is_order(value) plain_order(many) last_order(many) opposite(order) led(one,other) turned_about(order)
@@ -81,16 +84,71 @@ INTERFACE = {
         count_stacked(many) count_lined(many,number) count_bubbled(many,number)""",
     "countwords": """word_number(word,order) spread(word,many) signed_spread(word,many)
         both_spread(one_word,other_word,many)""",
+    "countcarried": """weight_to_size(order) size_to_weight(order) rings_to_tops(order) tops_to_rings(order)""",
+    "patterns": """spots(order,pattern) count_spots(order,pattern) has_pattern(order,pattern)
+        orders_without(many,patterns) count_without(many,patterns)""",
+    "bigcounts": """count_falls_at(many,places) count_sized(things,size) count_ringed(things,less)
+        falls_rest(things,falls,modulus) unstill_rest(things,modulus)""",
+    "spans": """are_shares(many,row,value) span(many,row,shares) span_at(many,row,shares,first,last)
+        moved_far(many,row,shares,index) moved_near(many,row,shares,index) met_pairs(many,row)
+        heights_of(many,row,thing)""",
+    "lifestates": """is_state(value) is_step(value) is_script(value) stepped(state,step) all_stepped(state,script)
+        step_back(state,step)""",
+    "tellrows": """rows_told(order,facts) surely_ahead(order,facts,pair,other) fewest_items(order,row)""",
+    "lifetexts": """order_text(order) row_text(many,row) shares_text(many,row,shares) script_text(script)
+        read_order(text) read_row(many,text) read_shares(many,row,text) read_script(text)""",
+}
+
+# The classes of the interface: methods with their arguments, behind these properties.
+CLASSES = {
+    ("lifevalues", "Spanned"): (
+        """__init__(self,many,row,shares) ones(many,row) __add__(self,other) __iadd__(self,other) __xor__(self,other)
+        __invert__(self) __call__(self,first,last) __getitem__(self,index) __contains__(self,value) __len__(self)
+        __bool__(self) __str__(self) same(self,other) __iter__(self) __eq__(self,other)""",
+        "many row shares order",
+    ),
+    ("lifebenches", "Bench"): (
+        """__init__(self,state) do(self,step) __iadd__(self,other) undo(self) redo(self) attempt(self,action)
+        __getitem__(self,index) __contains__(self,value) __len__(self) __bool__(self) __iter__(self)
+        __eq__(self,other) lines(self)""",
+        "state row shares spot seat order here wire table log",
+    ),
 }
 
 
+def parted(told):
+    """Return the list of the pairs of a name and of the list of its arguments."""
+    pairs = [each.rstrip(")").partition("(") for each in told.split()]
+    return [(name, arguments.split(",")) for name, _, arguments in pairs]
+
+
 class Interface(unittest.TestCase):
-    def test_all(self):
+    def test_functions(self):
         for name, told in INTERFACE.items():
             module = importlib.import_module(f"wiredorders.{name}")
-            for each in told.split():
-                function, _, arguments = each.rstrip(")").partition("(")
+            for function, arguments in parted(told):
                 found = getattr(module, function)
-                self.assertTrue(inspect.isfunction(found), each)
-                self.assertEqual(found.__module__, f"wiredorders.{name}", each)
-                self.assertEqual(list(inspect.signature(found).parameters), arguments.split(","), each)
+                self.assertTrue(inspect.isfunction(found), function)
+                self.assertEqual(found.__module__, f"wiredorders.{name}", function)
+                self.assertEqual(list(inspect.signature(found).parameters), arguments, function)
+
+    def test_classes(self):
+        for (name, told), (methods, properties) in CLASSES.items():
+            owner = getattr(importlib.import_module(f"wiredorders.{name}"), told)
+            self.assertTrue(inspect.isclass(owner))
+            self.assertEqual(owner.__module__, f"wiredorders.{name}")
+            for method, arguments in parted(methods):
+                self.assertIn(method, vars(owner))
+                self.assertEqual(list(inspect.signature(getattr(owner, method)).parameters), arguments, method)
+            for each in properties.split():
+                self.assertIsInstance(vars(owner)[each], property, each)
+        self.assertIsInstance(vars(importlib.import_module("wiredorders.lifevalues").Spanned)["ones"], classmethod)
+        self.assertEqual(vars(importlib.import_module("wiredorders.lifebenches").Bench)["MOST"], 60)
+
+    def test_every_module(self):
+        """All modules but what they share are of the interface, and README.md tells of all."""
+        files = {path.stem for path in PACKAGE.glob("*.py")} - {"__init__"}
+        self.assertEqual(files, set(INTERFACE) | {name for name, _ in CLASSES} | {"errors", "common"})
+        readme = (PACKAGE.parent / "README.md").read_text()
+        for name in files:
+            self.assertIn(f"`{name}`", readme)

@@ -2,8 +2,9 @@
 
 import unittest
 
-from tests.values import BIG
+from tests.values import BIG, STATE
 from wiredorders import errors
+from wiredorders.bigcounts import count_falls_at, count_ringed, count_sized, falls_rest, unstill_rest
 from wiredorders.blocks import side_by_side
 from wiredorders.climbs import climbs, count_climbs
 from wiredorders.codes import orders
@@ -12,7 +13,11 @@ from wiredorders.drawings import count_rows_drawn, drawn, rows_drawn
 from wiredorders.fields import least_drawings, turnings_to
 from wiredorders.inserted import orders_with_left
 from wiredorders.layings import comes_behind, count_layings, count_rows_of, first_row_of, layings
+from wiredorders.countcarried import size_to_weight, tops_to_rings
 from wiredorders.leastrows import count_rows, row_number_of, row_with, rows_of
+from wiredorders.lifebenches import Bench
+from wiredorders.lifestates import all_stepped, is_script
+from wiredorders.lifevalues import Spanned
 from wiredorders.nearnets import fewest_more, kept_row, more_for, near_more, near_net, near_rest
 from wiredorders.nets import (
     first_parted, first_unsorted, idle_comparers, is_sorter, layers_of, unsorted_marks, without_idle,
@@ -21,6 +26,7 @@ from wiredorders.numbered import count_by_falls, count_numbered, numbered_tables
 from wiredorders.orders import last_order, plain_order
 from wiredorders.overtakings import some_row
 from wiredorders.paths import paths, with_path
+from wiredorders.patterns import count_spots, count_without, has_pattern, orders_without, spots
 from wiredorders.pipeproducts import fall_step, in_orders, orders_up
 from wiredorders.pipes import all_pipes, count_pipes, high_pipes, low_pipes
 from wiredorders.pipesums import order_sum
@@ -31,8 +37,10 @@ from wiredorders.shapes import shapes_above
 from wiredorders.sixes import sixes, turns_between
 from wiredorders.slides import steps_round
 from wiredorders.stacks import bubble_passes, is_lines_way, is_stacks_way, stack_passes, stacks_needed, stacks_way
+from wiredorders.spans import are_shares, heights_of, span_at
 from wiredorders.strongsums import is_smooth, sizes_below, step_polynomial
 from wiredorders.strongways import count_strong_ways, least_above, strong_signed, strong_way, strongly_between
+from wiredorders.tellrows import fewest_items, rows_told, surely_ahead
 from wiredorders.tilings import count_roads, laying_mirrored, orders_within, points_of
 from wiredorders.triples import drawing_late, is_triple_bar, triple_bar
 from wiredorders.weakways import count_weak_ways, count_weakly_below, weak_signed, weak_way, weakly_between
@@ -122,6 +130,13 @@ TABLE = (
     (stacks_way, (plain_order(9), 9), (plain_order(10), 1), 9),
     (is_stacks_way, (plain_order(9), None), (plain_order(10), None), 9),
     (both_spread, ("size", "weight", 6), ("size", "weight", 7), 6),
+    (spots, (last_order(12), (4, 3, 2, 1, 0)), (plain_order(13), (0,)), 12),
+    (count_spots, (plain_order(12), (0, 1, 2, 3, 4)), (last_order(13), (0,)), 12),
+    (orders_without, (6, ((0, 1, 2, 3, 4),) * 6), (7, ((0,),)), 6),
+    (count_without, (7, ((0, 1, 2, 3, 4),) * 6), (8, ((0,),)), 7),
+    (rows_told, (last_order(5), (("does", 9, 3, True),) * 8), (plain_order(6), ()), 5),
+    (surely_ahead, (last_order(5), (), (0, 1), (3, 4)), (last_order(6), (), (0, 1), (3, 4)), 5),
+    (fewest_items, (last_order(5), some_row(last_order(5))), (last_order(6), some_row(last_order(6))), 5),
 )
 
 # Calls that are beyond a limit, and wrong besides.
@@ -170,6 +185,15 @@ BESIDES = (
     (errors.InvalidNumber, stacks_way, (plain_order(30), 10)),
     (errors.InvalidWord, both_spread, ("size", "none", 7)),
     (errors.InvalidMany, both_spread, ("size", "size", 31)),
+    (errors.InvalidPattern, spots, (plain_order(13), (0, 1, 2, 3, 4, 5))),
+    (errors.InvalidPattern, count_spots, (plain_order(30), ())),
+    (errors.InvalidPatterns, orders_without, (7, ())),
+    (errors.InvalidPatterns, count_without, (8, ((0,),) * 7)),
+    (errors.InvalidFacts, rows_told, (plain_order(6), (("does", 0, 0, True),))),
+    (errors.InvalidFacts, rows_told, (last_order(6), (("does", 0, 0, True),) * 9)),
+    (errors.InvalidPairs, surely_ahead, (last_order(6), (), (0, 1), (0, 1))),
+    (errors.InvalidRow, fewest_items, (last_order(6), ())),
+    (errors.InvalidRow, fewest_items, (plain_order(30), (0,))),
 )
 
 
@@ -219,3 +243,33 @@ class Limits(unittest.TestCase):
         self.assertEqual((stack_passes(last_order(30)), bubble_passes(last_order(30))), (1, 29))
         self.assertFalse(is_lines_way(last_order(30), None))
         self.assertEqual((len(spread("size", 30)), len(signed_spread("size", 30))), (436, 436))
+
+    def test_no_limit_of_life(self):
+        great = 10 ** 30
+        self.assertEqual(count_falls_at(30, ()), 1)
+        self.assertGreater(count_sized(great, 25), great ** 24)
+        self.assertGreater(count_ringed(great, 12), great ** 23)
+        self.assertIn(falls_rest(great, 25, 10 ** 12), range(10 ** 12))
+        self.assertIn(unstill_rest(great, 2000), range(2000))
+        self.assertEqual((size_to_weight(last_order(30)), tops_to_rings(plain_order(30))), (last_order(30), plain_order(30)))
+        self.assertFalse(has_pattern(last_order(30), (0, 1, 2, 3, 4)))
+        row = (28, 0) * 225
+        self.assertTrue(are_shares(30, row, ((BIG, 1),) * 450))
+        self.assertEqual(heights_of(30, row, 0)[-1], 1)
+        self.assertEqual(span_at(30, row, ((1, 1),) * 450, 28, 29), (225, 1))
+        self.assertEqual(len(all_stepped(STATE, (("about",),) * 12)), 13)
+        self.assertFalse(is_script((("about",),) * 13))
+
+    def test_limits_of_objects(self):
+        whole = Spanned.ones(30, (28, 0) * 225)
+        for beyond in (lambda: whole + Spanned.ones(30, (0,)), lambda: whole.__iadd__(whole)):
+            with self.assertRaises(errors.TooMany) as caught:
+                beyond()
+            self.assertEqual(caught.exception.limit, 450)
+        bench = Bench(STATE)
+        for _ in range(60):
+            bench += ()
+        for beyond in (lambda: bench.do(("about",)), lambda: bench.__iadd__(())):
+            with self.assertRaises(errors.TooMany) as caught:
+                beyond()
+            self.assertEqual(caught.exception.limit, 60)

@@ -2,10 +2,15 @@
 
 import functools
 import itertools
+import math
 
 from wiredorders.errors import InvalidOrder, TooMany
+from wiredorders.lifebenches import Bench
+from wiredorders.lifevalues import Spanned
 
 BIG = int("9" * 120)
+ONES = ((1, 1),) * 3
+STATE = (3, (0, 1, 0), ONES, 1, 0)
 
 
 def nested(depth, inside, width):
@@ -70,6 +75,34 @@ ANY = [
     (0, 1, 1), (1, 1, 0), (1, 0, 0), (1, 1, 1), (1, 0, True), (0, 1, 0, 1), (0, 0, 1, 1), (0, 0, 2), [0, 1, 1], (2, 0, 0),
     (1, 0, 2, 0, 1), (0, 1, 0, 1, 2), (0, 0, 1, 1, 1), (0, 1, 0, 1, True), (0, 1, 0, 1, -1), (0, 2, 3), (1, 2, 4), (0, 3, 1),
     "size", "falls", "weight", "rings", "tops", "stills", "overs", "Size", "size ", " falls", "IOIO",
+    ((1, 1), (1, 1)), ONES, ((1, 2),), ((2, 4),), ((1, 2), (2, 1)), ((3, 2), (1, 1), (BIG, 1)), ((1, BIG),), ((BIG, BIG),), ((BIG, 1),),
+    ((1, True),), ((True, 1),), [(1, 1)], ([1, 1],), ((1, 1, 1),), ((-1, 1),), ((1, -1),), ((-1, -1),), ("11",), ((1, 1), None),
+    ((1, 1),) * 450, ((1, 1),) * 451, ((0, 1), (1, 1)), (1, 0), (2, 4), (1000, 1), (1001, 1), (1, 1000), (1, 1001), (BIG, 2),
+    STATE, list(STATE), STATE[:4], STATE + (0,), (3, (0, 1, 0), ONES, 3, 2), (3, (0, 1, 0), ONES, 4, 0), (3, (0, 1, 0), ONES, 0, 3),
+    (3, (0, 1, 0), ONES[1:], 1, 0), (3, (0, 0), ONES[1:], 0, 0), (True, (), (), 0, 0), (1, (), (), 0, 0), (0, (), (), 0, 0),
+    (30, (), (), 0, 29), (31, (), (), 0, 0), (3, (2,), ONES[:1], 0, 0), (3, [0], ONES[:1], 0, 0), (3, (0,), ((2, 4),), 0, 0),
+    (3, (0,), ((BIG, 1),), True, 0), (3, (0,), ((BIG, 1),), 0, False), (3, (0,), ((BIG, 1),), -1, 0), (3, (0,), ((BIG, 1),), 1, 2),
+    ("far", 449), ("far", 450), ("near", 449), ("near", 450), ("add", 0, (1, 1)), ("add", 29, (1000, 999)), ("add", 30, (1, 1)),
+    ("add", 0, (2, 4)), ("add", 0, (1001, 1)), ("add", 0, (1, 1001)), ("add", 0), ("add", 0, 1), ("add", 0, (0, 1)), ("add", True, (1, 1)),
+    ("add", 0, [1, 1]), ("add", 0, (1, 1), 0), ("add", 0, (True, 1)), ("add", 0, BIG), ("drop",), ("drop", 0), ["drop"], "drop", ("about",),
+    ("over",), ("over", ()), ("scale", 0, (2, 1)), ("scale", 29, (1, 1000)), ("scale", 30, (2, 1)), ("scale", 0, 2), ("scale", (2, 1), 0),
+    ("put", 0), ("put", 3), ("put", 449), ("put", 450), ("put", False), ("put",), ("watch", 0), ("watch", 29), ("watch", 30), ("watch", None),
+    ("none",), ("Drop",), ("",), (0, "far"), (("drop",),), (("drop",),) * 12, (("drop",),) * 13, [("drop",)], (["drop"],), ("drop", "drop"),
+    (("far", 0), ("near", 1)), (("far", 0), ("near", -1)), (("put", 0), ("none",)), (("watch", 0), ("about",), ("over",)), (("add", 0, (1, 1)),),
+    (("does", 0, 0, True),), (("does", 0, 1, False),), (("does", 0, 0, 1),), (("does", 0, 0),), (("does", 9, 0, True),), (("does", 0, 9, True),),
+    (("does", True, 0, True),), (("does", -1, 0, True),), (("meets", 0, (0, 2), True),), (("meets", 0, (0, 1), True),), (("meets", 0, 0, True),),
+    (("meets", 0, (2, 0), True),), (("meets", (0, 2), 0, True),), (("ahead", (0, 2), (1, 2), True),), (("ahead", (0, 2), (0, 2), True),),
+    (("ahead", (1, 2), (0, 2), None),), (("ahead", 0, 1, True),), (("does", 0, 0, True),) * 8, (("does", 0, 0, True),) * 9,
+    [("does", 0, 0, True)], (["does", 0, 0, True],), (("none", 0, 0, True),), (("does", 0, 0, True), None), (0, 0, 0, True),
+    ((0, 1, 2), (2, 1, 0)), ((0,),) * 6, ((0,),) * 7, ((0, 1, 2, 3, 4),), ((0, 1, 2, 3, 4, 5),), [(0,)], ((0,), [0]), ((0,), (1,)), (0, 1, 2, 3, 4),
+    (0, 1, 2, 3, 4, 5), ((1, 0), (0, 1), (0,)), (0, 1, 3), (1, 3), (3, 1), (28, 29), (0, 28),
+    "2 0 1", "0 2", "1 0", "0  1", " 0 1", "0 1 ", "01", "0 01", "1/2", "1/2 2", "2 1/2 1", "1 1 1", "1 1", "1", "2", "1/1", "2/4", "0/1", "1/0", "/1", "1/", "1/2/3",
+    "1 / 2", "-1", "+1", "1.0", "0\n1", "0\t1", "9" * 1000, "28 " * 333, "far 0", "far 449", "far 450", "far 00", "far", "far 0 0", "near 1\nfar 0",
+    "drop", "drop\n", "\ndrop", "drop ", "drop\rdrop", "drop\n\ndrop", "\n".join(["drop"] * 12), "\n".join(["drop"] * 13), "about\nover", "add 0 1/2",
+    "add 0 2/4", "add 0 1/1", "add 0 2", "add 29 1000/999", "add 29 1001/999", "add 30 1", "add 0", "scale 1 2", "scale 1/2 1", "put 449", "put 450",
+    "watch 29", "watch 30", "none", "none 0", "far 0\r\ndrop", "FAR 0", "put \n0",
+    Spanned.ones(3, (0, 1, 0)), Spanned(3, (1, 0, 1), ((1, 2), (2, 1), (1, 2))), Spanned(2, (), ()), Bench(STATE), Bench((1, (), (), 0, 0)),
+    (Bench(STATE),), [Spanned(2, (), ())], (Spanned.ones(3, (0, 1, 0)), 0), (0, Bench(STATE)), ("far", Bench(STATE)), (3, Spanned.ones(3, (0, 1, 0)), ()),
     nested(30, (), 1), nested(30, 0, 2), nested(30, None, 500), [nested(29, "x", 3)], (0, nested(29, 0, 2)),
     nested(2, 0, 500), (3, nested(29, 0, 2)), (nested(29, 0, 2), 0), ("far", nested(29, 0, 2)), (nested(28, 0, 2),) * 3,
     InvalidOrder("no"), TooMany(5), (InvalidOrder("no"), 0), (0, TooMany(1)), [InvalidOrder("no")],
@@ -128,6 +161,38 @@ def right_sum(many, value):
 
 def right_net(many, value):
     return right_pairs(many, value) and len(value) <= 120
+
+
+def right_share(value):
+    return type(value) is tuple and len(value) == 2 and all(type(each) is int and each >= 1 for each in value) and math.gcd(*value) == 1
+
+
+def right_shares(row, value):
+    return type(value) is tuple and len(value) == len(row) and all(map(right_share, value))
+
+
+def right_state(value):
+    if type(value) is not tuple or len(value) != 5 or not is_int(value[0], 1, 30):
+        return False
+    many, row, shares, spot, seat = value
+    if not right_least_row(many, row) or not right_shares(row, shares):
+        return False
+    return is_int(spot, 0, len(row)) and is_int(seat, 0, many - 1)
+
+
+def right_step(value):
+    if type(value) is not tuple or not value or type(value[0]) is not str:
+        return False
+    word, items = value[0], value[1:]
+    if word in ("far", "near", "put", "watch"):
+        return len(items) == 1 and is_int(items[0], 0, 29 if word == "watch" else 449)
+    if word in ("add", "scale"):
+        return len(items) == 2 and is_int(items[0], 0, 29) and right_share(items[1]) and max(items[1]) <= 1000
+    return word in ("drop", "about", "over") and items == ()
+
+
+def right_script(value):
+    return type(value) is tuple and len(value) <= 12 and all(map(right_step, value))
 
 
 def led_to(many, row, start=None):

@@ -112,7 +112,7 @@ def unsorted_rows(many, net):
     bits = bits_by(many, net)
     falling = 0
     for place in range(many - 1):
-        falling = falling | (bits[place] & ~bits[place + 1])
+        falling = falling | ((bits[place] | bits[place + 1]) ^ bits[place + 1])
     return rows_with(many, falling)
 
 
