@@ -118,25 +118,17 @@ def item_in(many, row, shares, first, last):
 def moved_far(many, row, shares, index):
     """Return the pair of a row and its shares behind a far move."""
     check_shares(many, row, shares)
-    check_index(index)
     return moved_by(row, shares, "far", index)
 
 
 def moved_near(many, row, shares, index):
     """Return the pair of a row and its shares behind a near move."""
     check_shares(many, row, shares)
-    check_index(index)
     return moved_by(row, shares, "near", index)
 
 
-def check_index(value):
-    """Raise InvalidIndex for any value that is no integer."""
-    if not is_integer(value):
-        raise InvalidIndex("not an integer")
-
-
 def moved_by(row, shares, word, index):
-    """Return the pair of a row and its shares behind a move with an integer, or raise the first error that applies."""
+    """Return the pair of a row and its shares behind a move at any index, or raise the first error that applies."""
     further = 1 if word == "far" else 2
     if not is_within(index, 0, len(row) - 1 - further):
         raise InvalidIndex("not the index of an item with enough others behind it")

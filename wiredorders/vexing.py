@@ -76,20 +76,16 @@ def determinant(rows):
     """Return the determinant of a table of integers, a list of as many lists as these have items.
 
     Each step clears one column; what was the corner a step ahead divides all
-    that is left, so everything stays an integer.
+    that is left, so everything stays an integer. No corner comes out as 0 for
+    a vexing order: the first lines of the table count tables of numbers, too,
+    and each line has at least as many kinds as there are lines up to it.
     """
-    signed, corner = 1, 1
+    corner = 1
     while rows:
-        heads = [at for at, row in enumerate(rows) if row[0] != 0]
-        if not heads:
-            return 0
-        if heads[0] % 2 == 1:
-            signed = -signed
-        head = rows[heads[0]]
-        others = rows[:heads[0]] + rows[heads[0] + 1:]
+        head = rows[0]
         rows = [
             [(head[0] * row[at] - row[0] * head[at]) // corner for at in range(1, len(row))]
-            for row in others
+            for row in rows[1:]
         ]
         corner = head[0]
-    return signed * corner
+    return corner
