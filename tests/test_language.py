@@ -209,8 +209,22 @@ class Code(unittest.TestCase):
                 else:
                     self.assertIsInstance(parent, (ast.For, ast.comprehension), place)
                     self.assertIs(parent.iter, node, place)
+            views = isinstance(node.func, ast.Attribute) and node.func.attr in ("items", "keys", "values")
+            if name_of(node.func) == "range" or views:
+                self.check_kept(node, above[node], takers | {"reversed", "len"}, place)
             if name_of(node.func) == "reversed":
                 self.assertIn(name_of(getattr(node.args[0], "func", None)), ("range", "list", "tuple", "sorted"), place)
+
+    def check_kept(self, node, parent, takers, place):
+        """A range or a view is iterated at once, or kept in a local variable."""
+        if isinstance(parent, ast.Call):
+            self.assertIn(name_of(parent.func), takers, place)
+            self.assertIs(parent.args[0], node, place)
+        elif isinstance(parent, ast.Assign):
+            self.assertIsInstance(parent.targets[0], ast.Name, place)
+        else:
+            self.assertIsInstance(parent, (ast.For, ast.comprehension), place)
+            self.assertIs(parent.iter, node, place)
 
     def test_loops_change_nothing_that_they_go_over(self):
         for node, place in nodes(ast.For):

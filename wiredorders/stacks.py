@@ -84,7 +84,7 @@ def stack_passes(order):
 def bubble_pass(order):
     """Return the order behind a bubble pass."""
     check_order(order)
-    return led_by(order, near_net_in(range(len(order) - 1)))
+    return led_by(order, near_net_in(tuple(range(len(order) - 1))))
 
 
 def bubble_passes(order):
